@@ -1,0 +1,1 @@
+"""The least term that does it."""

@@ -1,0 +1,34 @@
+"""The language: how many words and inputs there are, which numbers and operations are let."""
+
+from leastterm.words import ARITIES
+
+MOST_NUMBERS = 2
+MOST_OPERATIONS = 5
+PRICES = (1, 2, 3)
+
+
+class Language:
+    """A language. It is never changed: another one takes its place."""
+
+    def __init__(self, size, inputs, numbers, prices):
+        self.size = size
+        self.inputs = inputs
+        self.numbers = numbers
+        self.prices = prices
+
+
+def has_twice(told):
+    return len(set(told)) < len(told)
+
+
+def may_be_let(size, numbers, operations, costs):
+    """Whether a language of words below size may let these numbers, and these operations at these costs."""
+    if len(numbers) > MOST_NUMBERS or len(operations) > MOST_OPERATIONS:
+        return False
+    if has_twice(numbers) or has_twice(operations):
+        return False
+    if any([number >= size for number in numbers]):
+        return False
+    if any([operation >= len(ARITIES) for operation in operations]):
+        return False
+    return all([cost in PRICES for cost in costs])
