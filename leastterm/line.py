@@ -2,8 +2,10 @@
 
 from leastterm.language import Language
 from leastterm.language import may_be_let
+from leastterm.language import term_cost
 from leastterm.notation import is_term
 from leastterm.notation import term_outcomes
+from leastterm.search import count_things
 from leastterm.search import first_term
 from leastterm.words import all_rows
 
@@ -32,7 +34,7 @@ class Line:
         if width not in (1, 2, 3, 4) or inputs not in (1, 2):
             return [NOT_GRANTED]
         self.begin(width, inputs)
-        return [len(all_rows(self.language.size, inputs))]
+        return [len(self.every_row())]
 
     def tell_language(self, numbers, priced):
         """priced holds each operation's number and its cost, one operation behind another."""
@@ -46,8 +48,7 @@ class Line:
         return [len(operations)]
 
     def tell_example(self, inputs, out):
-        language = self.language
-        if len(inputs) != language.inputs or max(inputs + [out]) >= language.size:
+        if not self.are_inputs(inputs) or out >= self.language.size:
             return [NOT_GRANTED]
         row = tuple(inputs)
         if self.examples.get(row, out) != out:
@@ -64,7 +65,7 @@ class Line:
         return [count]
 
     def tell_wish(self, term):
-        if not is_term(term, self.language.size, self.language.inputs):
+        if not self.is_granted(term):
             return [NOT_GRANTED]
         self.wish = list(term)
         return [0]
@@ -72,40 +73,86 @@ class Line:
     def find_first(self, most):
         if most > MOST_COST:
             return [NOT_GRANTED]
-        found = self.first_by_examples(most)
-        return [0] if found is None else [1] + told(found)
+        return found_or_none(self.first_by_examples(most))
 
     def learn(self, most):
         if most > MOST_COST:
             return [NOT_GRANTED]
-        if not self.wish_does_examples():
+        if self.outcomes(self.wish, list(self.examples)) != tuple(self.examples.values()):
             return [AT_ODDS]
-        rows = all_rows(self.language.size, self.language.inputs)
-        wishes = term_outcomes(self.wish, self.language.size, rows)
+        rows = self.every_row()
+        wishes = self.outcomes(self.wish, rows)
         before = len(self.examples)
         while True:
             found = self.first_by_examples(most)
             came = len(self.examples) - before
             if found is None:
                 return [0, came]
-            place = first_difference(wishes, term_outcomes(found[1], self.language.size, rows))
+            place = first_difference(wishes, self.outcomes(found[1], rows))
             if place is None:
                 return [1, came] + told(found)
             if len(self.examples) == MOST_EXAMPLES:
                 return [2]
             self.examples[rows[place]] = wishes[place]
 
+    def find_best(self, most):
+        if most > MOST_COST:
+            return [NOT_GRANTED]
+        rows = self.every_row()
+        return found_or_none(first_term(self.language, rows, self.outcomes(self.wish, rows), most))
+
+    def check(self, term):
+        if not self.is_granted(term):
+            return [NOT_GRANTED]
+        rows = self.every_row()
+        place = first_difference(self.outcomes(self.wish, rows), self.outcomes(term, rows))
+        return [1] if place is None else [0] + list(rows[place])
+
+    def count_classes(self, most):
+        if most > MOST_COST:
+            return [NOT_GRANTED]
+        return [most] + count_things(self.language, list(self.examples), most)
+
+    def tell_cost(self, term):
+        if not self.is_granted(term):
+            return [NOT_GRANTED]
+        cost = term_cost(self.language, term)
+        return [0] if cost is None else [1, cost]
+
+    def tell_value(self, inputs, term):
+        if not self.is_granted(term) or not self.are_inputs(inputs):
+            return [NOT_GRANTED]
+        return list(self.outcomes(term, [inputs]))
+
+    def show_examples(self):
+        shown = [len(self.examples)]
+        for row, out in self.examples.items():
+            shown.extend(list(row) + [out])
+        return shown
+
+    def is_granted(self, term):
+        return is_term(term, self.language.size, self.language.inputs)
+
+    def are_inputs(self, row):
+        return len(row) == self.language.inputs and max(row) < self.language.size
+
+    def every_row(self):
+        return all_rows(self.language.size, self.language.inputs)
+
+    def outcomes(self, term, rows):
+        return term_outcomes(term, self.language.size, rows)
+
     def first_by_examples(self, most):
         return first_term(self.language, list(self.examples), tuple(self.examples.values()), most)
-
-    def wish_does_examples(self):
-        outcomes = term_outcomes(self.wish, self.language.size, list(self.examples))
-        return outcomes == tuple(self.examples.values())
 
 
 def told(found):
     """A found term as it's answered: what it costs, how many numbers it's told in, these."""
     return [found[0], len(found[1])] + found[1]
+
+
+def found_or_none(found):
+    return [0] if found is None else [1] + told(found)
 
 
 def first_difference(ones, others):

@@ -74,3 +74,12 @@ def first_term(language, rows, wanted, most):
         if wanted in level:
             return (cost, level[wanted])
     return None
+
+
+def count_things(language, rows, most):
+    """For each cost from 1 to most how many things terms of it make of the rows that no cheaper one does."""
+    search = Search(language, rows)
+    counts = []
+    while len(counts) < most:
+        counts.append(len(search.grow()))
+    return counts

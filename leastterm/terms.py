@@ -9,9 +9,17 @@ CLEAR = 3
 WISH = 4
 FIND = 5
 LEARN = 6
+BEST = 7
+CHECK = 8
+CLASSES = 9
+COST = 10
+VALUE = 11
 
 # How many whole numbers, then how many rows, stand behind each call's number.
-SHAPES = {0: (2, 0), 1: (0, 2), 2: (1, 1), 3: (0, 0), 4: (0, 1), 5: (1, 0), 6: (1, 0)}
+SHAPES = {
+    0: (2, 0), 1: (0, 2), 2: (1, 1), 3: (0, 0), 4: (0, 1), 5: (1, 0), 6: (1, 0),
+    7: (1, 0), 8: (0, 1), 9: (1, 0), 10: (0, 1), 11: (0, 2), 12: (0, 0),
+}
 
 
 def answers(calls):
@@ -54,4 +62,16 @@ def answer_call(line, call, plain, rows):
         return line.tell_wish(rows[0])
     if call == FIND:
         return line.find_first(plain[0])
-    return line.learn(plain[0])
+    if call == LEARN:
+        return line.learn(plain[0])
+    if call == BEST:
+        return line.find_best(plain[0])
+    if call == CHECK:
+        return line.check(rows[0])
+    if call == CLASSES:
+        return line.count_classes(plain[0])
+    if call == COST:
+        return line.tell_cost(rows[0])
+    if call == VALUE:
+        return line.tell_value(rows[0], rows[1])
+    return line.show_examples()

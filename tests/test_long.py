@@ -4,7 +4,8 @@ import random
 import unittest
 
 from tests import helper
-from tests.helper import Model, clear, example, find, lang, last, learn, run, start, wish
+from tests.helper import (Model, best, check, classes, clear, cost, example, find, lang, last, learn, run, shows, start,
+                          value, wish)
 
 DEAREST = [
     [(7, 1), (8, 1), (9, 1), (6, 1), (10, 1)],
@@ -22,6 +23,11 @@ LEARNT_BY_EIGHT = [
     (DEAREST[0], [30, 30, 23, 6, 0, 1], [2]),
     (DEAREST[1], [24, 22, 21, 1, 23, 0], [2]),
     (DEAREST[2], [22, 23, 0], [0, 8]),
+]
+# Five operations that make the most terms, or the most things, of all rows of inputs.
+DEAREST_OF_ALL_INPUTS = DEAREST + [
+    [(1, 1), (3, 1), (8, 1), (9, 1), (10, 1)],
+    [(1, 1), (3, 1), (7, 1), (8, 1), (11, 1)],
 ]
 
 
@@ -52,12 +58,46 @@ class Long(unittest.TestCase):
             given = run(*told, *[call for _ in range(18) for call in (learn(5), clear())])
             self.assertEqual(given[3:], [answer, [8]] * 18)
 
+    def test_the_dearest_best_forty_times(self):
+        for operations in DEAREST_OF_ALL_INPUTS:
+            told = [start(4, 2), lang([3, 9], operations), wish(FAR_WISH)]
+            self.assertEqual(run(*told, *[best(5) for _ in range(37)]), [[256], [5], [0]] + [[0]] * 37)
+
+    def test_the_dearest_classes_forty_times(self):
+        for operations in DEAREST_OF_ALL_INPUTS:
+            model = Model()
+            calls = [("start", 4, 2), ("lang", [3, 9], operations)]
+            calls.extend([("example", told[3:], told[1]) for told in EIGHT])
+            expected = [ask(model, *call) for call in calls + [("classes", 5)]]
+            given = run(start(4, 2), lang([3, 9], operations), *EIGHT, *[classes(5) for _ in range(30)])
+            self.assertEqual(given, expected + [expected[-1]] * 29)
+
+    def test_best_and_classes_in_turn_with_changing_languages(self):
+        calls = [start(4, 2), wish(FAR_WISH)] + EIGHT
+        for turn in range(10):
+            calls.extend([lang([3, 9], DEAREST_OF_ALL_INPUTS[turn % 5]), best(5), classes(5)])
+        given = run(*calls)
+        self.assertEqual(given[10::3], [[5]] * 10)
+        self.assertEqual(given[11::3], [[0]] * 10)
+        self.assertEqual(given[12:27:3], given[27::3])
+
+    def test_forty_calls_of_all_kinds(self):
+        thirteen = [start(4, 2), lang([3, 9], DEAREST[0]), wish([27, 11, 28, 0, 1]), example([1, 1], 9), learn(5),
+                    find(5), best(5), check([27, 0, 28, 11, 1]), classes(2), cost([27, 0, 28, 11, 1]),
+                    value([5, 6], [27, 0, 28, 11, 1]), shows(), clear()]
+        given = run(*thirteen, *thirteen, *thirteen, shows())
+        self.assertEqual(given[:13], given[13:26])
+        self.assertEqual(given[:13], given[26:39])
+        self.assertEqual(given[6:11], [[1, 5, 5, 27, 0, 28, 11, 1], [1], [2, 4, 0], [1, 5], [8]])
+        self.assertEqual(given[39], [0])
+
     def test_the_dearest_searches_are_right(self):
         for operations in DEAREST:
             wishes = [term for _, term, _ in LEARNT_BY_EIGHT]
             for term in wishes + [FAR_WISH, [27, 0, 28, 1, 5], [31, 0, 1, 20, 1], [28, 0, 24, 1, 11], [26, 0, 29, 1, 5]]:
                 model = Model()
-                calls = [("start", 4, 2), ("lang", [3, 9], operations), ("wish", term), ("learn", 5), ("find", 5)]
+                calls = [("start", 4, 2), ("lang", [3, 9], operations), ("wish", term), ("learn", 5), ("find", 5),
+                         ("best", 5), ("classes", 5), ("shows",)]
                 expected = [ask(model, *call) for call in calls]
                 self.assertEqual(run(*[getattr(helper, call[0])(*call[1:]) for call in calls]), expected)
 
@@ -108,32 +148,56 @@ class Sample:
             term = term[:-1]
         return ("wish", term[:30])
 
-    def call(self):
-        name = self.source.choice(["start", "lang", "lang", "example", "example", "clear", "wish", "find", "find",
-                                   "learn", "learn", "learn"])
-        if name == "clear":
-            return ("clear",)
-        if name in ("find", "learn"):
+    def check(self):
+        return ("check", self.wish()[1])
+
+    def cost(self):
+        return ("cost", self.wish()[1])
+
+    def value(self):
+        return ("value", self.example()[1], self.wish()[1])
+
+    def call(self, names):
+        name = self.source.choice(names)
+        if name in ("clear", "shows"):
+            return (name,)
+        if name in ("find", "learn", "best", "classes"):
             return (name, self.source.choice([0, 1, 2, 3, 3, 4, 4, 5, 5, 5, 6]))
         return getattr(self, name)()
 
 
+FIRST_SEVEN = ["start", "lang", "lang", "example", "example", "clear", "wish", "find", "find", "learn", "learn", "learn"]
+ALL_KINDS = ["start", "lang", "lang", "example", "example", "example", "clear", "wish", "wish", "find", "learn", "best",
+             "best", "check", "check", "classes", "classes", "cost", "cost", "value", "value", "shows"]
+
+
 class AgainstTheModel(unittest.TestCase):
-    def test_many_lines(self):
+    def kinds_reached(self, names, seeds):
+        """Holds a line for each seed against the model, and gives back which sorts of answers came."""
         kinds = {}
-        for seed in range(150):
+        for seed in seeds:
             sample = Sample(seed)
-            calls = [sample.call() for _ in range(1 + seed % 40)]
+            calls = [sample.call(names) for _ in range(1 + seed % 40)]
             model = Model()
             expected = [ask(model, *call) for call in calls]
             given = run(*[getattr(helper, call[0])(*call[1:]) for call in calls])
             self.assertEqual(given, expected, calls)
             for call, answer in zip(calls, given):
-                first = answer[0] if call[0] in ("find", "learn") else min(answer[0], 0)
-                kinds[(call[0], first)] = True
+                told = call[0] in ("find", "learn", "best", "check", "cost")
+                kinds[(call[0], answer[0] if told else min(answer[0], 0))] = True
+        return kinds
+
+    def test_many_lines(self):
+        kinds = self.kinds_reached(FIRST_SEVEN, range(150))
         # The lines are worth something only if they reach each sort of answer.
         wanted = [("start", -1), ("lang", -1), ("example", -1), ("example", -3), ("wish", -1), ("find", -1),
                   ("learn", -1), ("learn", -3), ("find", 0), ("find", 1), ("learn", 0), ("learn", 1)]
+        self.assertEqual([kind for kind in wanted if kind not in kinds], [])
+
+    def test_many_lines_of_all_kinds(self):
+        kinds = self.kinds_reached(ALL_KINDS, range(2000, 2300))
+        wanted = [("best", -1), ("best", 0), ("best", 1), ("check", -1), ("check", 0), ("check", 1), ("classes", -1),
+                  ("classes", 0), ("cost", -1), ("cost", 0), ("cost", 1), ("value", -1), ("value", 0), ("shows", 0)]
         self.assertEqual([kind for kind in wanted if kind not in kinds], [])
 
     def test_full_lines(self):
@@ -147,7 +211,8 @@ class AgainstTheModel(unittest.TestCase):
                 row = [sample.source.randrange(2 ** sample.w) for _ in range(sample.k)]
                 out = sample.word() if wished is None else helper.tree_value(wished, sample.w, row)
                 calls.append(("example", row, out))
-            calls.extend([("find", 5), ("learn", 5), ("find", 4), ("clear",), ("learn", 5), sample.example(), ("clear",)])
+            calls.extend([("find", 5), ("classes", 5), ("learn", 5), ("shows",), ("classes", 5), ("find", 4), ("clear",),
+                          ("learn", 5), ("shows",), ("best", 5), ("classes", 5), sample.example(), ("clear",)])
             model = Model()
             expected = [ask(model, *call) for call in calls]
             given = run(*[getattr(helper, call[0])(*call[1:]) for call in calls])
