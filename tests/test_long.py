@@ -94,7 +94,8 @@ class Long(unittest.TestCase):
     def test_the_dearest_searches_are_right(self):
         for operations in DEAREST:
             wishes = [term for _, term, _ in LEARNT_BY_EIGHT]
-            for term in wishes + [FAR_WISH, [27, 0, 28, 1, 5], [31, 0, 1, 20, 1], [28, 0, 24, 1, 11], [26, 0, 29, 1, 5]]:
+            for term in wishes + [FAR_WISH, [27, 0, 28, 1, 5], [31, 0, 1, 20, 1], [28, 0, 24, 1, 11],
+                                  [26, 0, 29, 1, 5]]:
                 model = Model()
                 calls = [("start", 4, 2), ("lang", [3, 9], operations), ("wish", term), ("learn", 5), ("find", 5),
                          ("best", 5), ("classes", 5), ("shows",)]
@@ -166,7 +167,8 @@ class Sample:
         return getattr(self, name)()
 
 
-FIRST_SEVEN = ["start", "lang", "lang", "example", "example", "clear", "wish", "find", "find", "learn", "learn", "learn"]
+FIRST_SEVEN = ["start", "lang", "lang", "example", "example", "clear", "wish", "find", "find",
+               "learn", "learn", "learn"]
 ALL_KINDS = ["start", "lang", "lang", "example", "example", "example", "clear", "wish", "wish", "find", "learn", "best",
              "best", "check", "check", "classes", "classes", "cost", "cost", "value", "value", "shows"]
 
@@ -211,8 +213,9 @@ class AgainstTheModel(unittest.TestCase):
                 row = [sample.source.randrange(2 ** sample.w) for _ in range(sample.k)]
                 out = sample.word() if wished is None else helper.tree_value(wished, sample.w, row)
                 calls.append(("example", row, out))
-            calls.extend([("find", 5), ("classes", 5), ("learn", 5), ("shows",), ("classes", 5), ("find", 4), ("clear",),
-                          ("learn", 5), ("shows",), ("best", 5), ("classes", 5), sample.example(), ("clear",)])
+            calls.extend([("find", 5), ("classes", 5), ("learn", 5), ("shows",), ("classes", 5), ("find", 4),
+                          ("clear",), ("learn", 5), ("shows",), ("best", 5), ("classes", 5), sample.example(),
+                          ("clear",)])
             model = Model()
             expected = [ask(model, *call) for call in calls]
             given = run(*[getattr(helper, call[0])(*call[1:]) for call in calls])

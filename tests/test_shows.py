@@ -49,7 +49,8 @@ class Shows(unittest.TestCase):
             self.assertLess(given[0][0], 0)
             self.assertEqual(given[1], [2, 1, 2, 0, 3])
         eight = [start(4, 1)] + [example([a], 0) for a in range(8)]
-        self.assertEqual(run(*eight, example([8], 0), shows())[-2:], [[-5], [8] + [n for a in range(8) for n in (a, 0)]])
+        self.assertEqual(run(*eight, example([8], 0), shows())[-2:],
+                         [[-5], [8] + [n for a in range(8) for n in (a, 0)]])
 
     def test_nothing_comes_of_it(self):
         self.assertEqual(run(example([1], 2), shows(), shows(), example([0], 0), clear()),
